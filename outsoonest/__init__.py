@@ -1,0 +1,1 @@
+"""Outsoonest: how a house is emptied, best at every beat at once."""

@@ -1,0 +1,82 @@
+"""The interface: each name stands in its file, and takes its arguments by the names that are given."""
+
+import importlib
+import inspect
+import unittest
+
+from outsoonest import errors
+
+FUNCTIONS = {
+    "words": ("need_octets(value)",),
+    "forms": ("is_value(value)", "is_row(value)", "write_value(value)", "write_row(row)", "value_length(value)",
+              "read_value(octets, at)", "whole_value(octets)", "read_row(octets, at)", "read_rows(octets)",
+              "healing(octets)"),
+    "houses": ("check_house(value)", "with_smoke(house, room, beat)", "cleared(house, room)",
+               "with_width(house, passage, many)", "with_shut(house, passage, low, high)",
+               "with_open(house, passage, low, high)", "ways_out(house)", "passages_from(house, room)",
+               "passages_to(house, room)", "is_place(house, room, beat)", "can_enter(house, passage, beat)",
+               "entries(house, passage, low, high)", "soonest_alone(house, room, beat, end)",
+               "last_alone(house, end)", "way_alone(house, room, beat, end)",
+               "way_holds(house, room, beat, end, value)"),
+    "people": ("check_people(house, value)", "need_person(people, value)", "in_order(people)",
+               "is_lot_of(people, value)", "lot_ranks(people, lot)", "first_lot(people, lots)",
+               "by_room(house, people, beat)", "words_of(house, people, beat)"),
+    "unrolled": ("check_task(value)", "with_people(task, people)", "part_of(task, lot)", "nodes_of(task)",
+                 "arcs_of(task)", "begins(task)", "goals(task)", "flow_holds(task, value)", "flow_out(task, flow)"),
+    "runs": ("check_run(task, value)", "run_faults(task, run)", "run_holds(task, value)",
+             "where(task, run, person, beat)", "outs(task, run)", "out_by(task, run)", "lost_of(task, run)",
+             "run_flow(task, run)", "flow_run(task, flow)"),
+    "flows": ("check_net(value)", "no_flow(net)", "flow_fits(net, start, goal, value)",
+              "worth(net, start, goal, flow)", "cut_worth(net, lot)", "walk(net, flow, start, ends)",
+              "walk_holds(net, flow, start, goal, value)", "reached(net, flow, start)", "reaching(net, flow, goal)",
+              "spare(net, flow, steps)", "turned_by(net, flow, steps, many)", "led_on(net, start, goal, flow)",
+              "greatest(net, start, goal)", "cuts(net, start, goal)", "unlike(net, start, goal, flow, other)"),
+    "soonest": ("ends_fit(net, start, ends, value)", "brought(net, start, ends, flow)", "most_to(net, start, ends)",
+                "soonest_to(net, start, ends)", "walls(net, start, ends)", "goal_net(task)", "soonest(task)",
+                "soonest_flow(task)", "soonest_run(task)", "walls_of(task)"),
+}
+
+ATTRIBUTES = {
+    "BadOctets": "at", "BadForm": "at", "BadHouse": "at", "BadPeople": "at", "BadRow": "at", "BadText": "at",
+    "Refused": "at", "TooGreat": "most", "Broken": "at", "NotLet": "word", "NoRoom": "room",
+    "NoPassage": "passage", "NoPerson": "person", "NoBeat": "beat",
+}
+
+
+class Interface(unittest.TestCase):
+    def test_functions(self):
+        for name, rows in FUNCTIONS.items():
+            module = importlib.import_module("outsoonest." + name)
+            for row in rows:
+                with self.subTest(module=name, function=row):
+                    word = row.split("(")[0]
+                    function = getattr(module, word)
+                    self.assertEqual(function.__module__, module.__name__)
+                    self.assertEqual(word + str(inspect.signature(function)), row)
+
+
+class Errors(unittest.TestCase):
+    """[4]."""
+
+    def test_bases(self):
+        self.assertEqual(errors.OutError.__bases__, (ValueError,))
+        for word, attribute in ATTRIBUTES.items():
+            base = KeyError if word in ("NoRoom", "NoPassage", "NoPerson", "NoBeat") else errors.OutError
+            self.assertEqual(getattr(errors, word).__bases__, (base,), word)
+            self.assertEqual(getattr(errors, word).__module__, "outsoonest.errors")
+        self.assertIsInstance(errors.OutError("x"), ValueError)
+
+    def test_arguments_are_kept(self):
+        for word, attribute in ATTRIBUTES.items():
+            for value in (0, True, None, "word", [1, [2]], (3,), errors.NoBeat([4]), {}):
+                error = getattr(errors, word)
+                self.assertIs(getattr(error(value), attribute), value)
+                self.assertIs(getattr(error(**{attribute: value}), attribute), value)
+                with self.assertRaises(error) as caught:
+                    raise error(value)
+                self.assertIs(getattr(caught.exception, attribute), value)
+                self.assertIsInstance(str(error(value)), str)
+
+
+if __name__ == "__main__":
+    unittest.main()
