@@ -72,8 +72,14 @@ class Change:
             if self.nodes[-1] == goal:
                 found.append(self.take_off(self.row, many))
                 many -= found[-1][0]
-                self.begin(start)
+                self.cut_spent()
         return found
+
+    def cut_spent(self):
+        """Leaves of the trail what is ahead of its first step that can be gone no more."""
+        spent = [at for at, (arc, _) in enumerate(self.row) if self.more[arc] == 0]
+        if spent:
+            self.cut(spent[0] + 1)
 
     def rings(self, start):
         """Takes off rings until nothing more leads out of a node; no ways may be left."""

@@ -155,8 +155,8 @@ def is_flow_of(task, value):
     if not is_led(task, value):
         return False
     rooms = task[0][0]
-    balance = zip(places_of(task), going_on(task, value), beginning(task))
-    return all([rooms[place[0]] == 1 or 0 <= more <= many for place, more, many in balance])
+    return all([rooms[room] == 1 or 0 <= more <= many
+                for (room, _), more, many in zip(places_of(task), going_on(task, value), beginning(task))])
 
 
 def flow_holds(task, value):

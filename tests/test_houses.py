@@ -46,6 +46,13 @@ class Checked(Case):
         for value, at in BAD_HOUSES:
             self.told(BadHouse, at, check_house, value)
 
+    def test_rooms_of_passages(self):
+        inside = (0, 0)
+        self.gives((inside, ((0, 1, 1, 1, ()), (1, 0, 1, 1, ())), (None,) * 2), check_house,
+                   (inside, ((0, 1, 1, 1, ()), (1, 0, 1, 1, ())), (None,) * 2))
+        for tail, head in ((-1, 0), (0, -1), (2, 0), (0, 2), (-2, 1), (1, -2), (None, 0), (0, None)):
+            self.told(BadHouse, 1, check_house, (inside, ((tail, head, 1, 1, ()),), (None,) * 2))
+
     def test_the_first_part_is_told(self):
         self.told(BadHouse, 0, check_house, ((2,), None, None))
         self.told(BadHouse, 1, check_house, ((0,), None, None))
@@ -182,6 +189,8 @@ class Alone(Case):
         self.gives((), way_alone, PLAIN, 2, 5, 5)
         self.gives(True, way_holds, PLAIN, 2, 5, 5, ())
         self.gives((None, None, 0), last_alone, PLAIN, 0)
+        self.gives((None, 0), last_alone, ((0, 1), ((0, 1, 1, 1, ()),), (None, None)), 0)
+        self.gives((0, 1), last_alone, ((0, 1), ((0, 1, 1, 1, ()),), (None, None)), 1)
 
     def test_greatest_house(self):
         first = soonest_alone(GREAT, 0, 0, 59)
@@ -244,6 +253,10 @@ class Alone(Case):
             self.gives(False, way_holds, PLAIN, 0, 0, 9, value)
         self.gives(True, way_holds, PLAIN, 0, 0, 9, ((0, 0), (1, 2)))
         self.gives(False, way_holds, PLAIN, 0, 0, 9, ((0, 0), (1, 3)))
+        self.gives(False, way_holds, PLAIN, 0, 0, 9, ((0, 0), (1, 0)))
+        self.gives(False, way_holds, PLAIN, 0, 0, 9, ((0, 2), (1, 2)))
+        self.gives(False, way_holds, PLAIN, 0, 0, 9, ((2, True),))
+        self.gives(False, way_holds, PLAIN, 0, 0, 9, ((-1, 0),))
         self.gives(False, way_holds, PLAIN, 0, 0, 9, ((0, 0),))
         self.gives(False, way_holds, PLAIN, 0, 0, 9, ((2, 5),))
         self.gives(True, way_holds, PLAIN, 0, 0, 9, ((2, 4),))

@@ -197,6 +197,18 @@ class Flows(Case):
         self.gives(tuple([taken.get(name, 0) for name in names]), run_flow, TASK, RUN)
         self.gives((0,) * len(names), run_flow, TASK, (((0, 0),), ((0, 1),), ((1, 4),)))
 
+    def test_who_stands_on_the_way(self):
+        house = ((0, 1, 0, 0), ((0, 3, 2, 1, ()), (3, 2, 1, 1, ()), (2, 1, 3, 2, ())), (None,) * 4)
+        task = (house, ((0, 1, 0), (3, 0, 0), (0, 0, 0)), 0, 12)
+        run = (((0, 2), (1, 6), (2, 9)), ((1, 1), (2, 3)), ((0, 4), (1, 7)))
+        taken = {("stand", 0, 1): 1, ("go", 0, 2): 1, ("stand", 3, 4): 1, ("stand", 3, 5): 1, ("go", 1, 6): 1,
+                 ("stand", 2, 7): 1, ("stand", 2, 8): 1, ("go", 2, 9): 1,
+                 ("stand", 3, 0): 1, ("go", 1, 1): 1, ("stand", 2, 2): 1, ("go", 2, 3): 1}
+        flow = tuple([taken.get(arc[:3], 0) for arc in arcs_of(task)])
+        self.assertEqual(sum(flow), len(taken))
+        self.gives(flow, run_flow, task, run)
+        self.gives((run[0], run[1], ()), flow_run, task, flow)
+
     def test_all_runs(self):
         draw = random.Random(33)
         many = 0
