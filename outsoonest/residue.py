@@ -27,6 +27,10 @@ class Residue:
         """The load as it is now."""
         return tuple(self.left[1::2])
 
+    def gone_from(self, start):
+        """How much goes by the load from a node to which nothing comes."""
+        return sum([self.left[half ^ 1] for half in self.leaving[start]])
+
     def met_from(self, start):
         """By node whether a walk leads there from the start, or it is the start."""
         met = [False] * len(self.leaving)

@@ -79,14 +79,17 @@ def need_run(task, value):
     return run
 
 
+def run_or_none(task, value):
+    """Any value that is a run of a checked task that holds, as tuples; None for any other one."""
+    try:
+        return need_run(task, value)
+    except Refused:
+        return None
+
+
 def run_holds(task, value):
     """Whether any value is a run that holds."""
-    task = check_task(task)
-    try:
-        need_run(task, value)
-    except Refused:
-        return False
-    return True
+    return run_or_none(check_task(task), value) is not None
 
 
 def last_stay(house, person, row):
@@ -146,12 +149,17 @@ def outs(task, run):
     return outs_of(task, need_run(task, run))
 
 
+def out_numbers(task, run):
+    """By beat how many are out by a run that holds."""
+    since = outs_of(task, run)
+    return tuple([len([when for when in since if when is not None and when <= beat])
+                  for beat in range(task[2], task[3] + 1)])
+
+
 def out_by(task, run):
     """By beat, from now to the end, how many are out."""
     task = check_task(task)
-    since = outs_of(task, need_run(task, run))
-    return tuple([len([when for when in since if when is not None and when <= beat])
-                  for beat in range(task[2], task[3] + 1)])
+    return out_numbers(task, need_run(task, run))
 
 
 def lost_of(task, run):
@@ -176,10 +184,8 @@ def arcs_taken(house, person, row):
     return taken
 
 
-def run_flow(task, run):
-    """The flow of a run: by arc how many of those who get out by the end take it."""
-    task = check_task(task)
-    run = need_run(task, run)
+def flow_of_run(task, run):
+    """The flow of a run that holds."""
     numbers = {arc[:3]: number for number, arc in enumerate(steps_of(task))}
     flow = [0] * len(numbers)
     for person, row, since in zip(task[1], run, outs_of(task, run)):
@@ -189,10 +195,30 @@ def run_flow(task, run):
     return tuple(flow)
 
 
+def run_flow(task, run):
+    """The flow of a run: by arc how many of those who get out by the end take it."""
+    task = check_task(task)
+    return flow_of_run(task, need_run(task, run))
+
+
 def flow_run(task, flow):
     """Some run whose flow it is, in which nobody else enters a passage."""
     task = check_task(task)
     return run_of(task, need_flow_of(task, flow))
+
+
+def dealt(arcs, load, waiting, rows):
+    """Some run by which those who wait, by place, go on by the load of these arcs.
+
+    `rows` has by person what they entered ahead of it; both lists change.
+    """
+    for (kind, name, beat, tail, head, _), many in zip(arcs, load):
+        for _ in range(many):
+            person = waiting[tail].pop()
+            waiting[head].append(person)
+            if kind == "go":
+                rows[person].append((name, beat))
+    return tuple([tuple(row) for row in rows])
 
 
 def run_of(task, flow):
@@ -203,11 +229,4 @@ def run_of(task, flow):
     for person in reversed(in_order(task[1])):
         if starts[person] is not None:
             waiting[starts[person]].append(person)
-    rows = [[] for _ in task[1]]
-    for (kind, name, beat, tail, head, _), many in zip(steps_of(task), flow):
-        for _ in range(many):
-            person = waiting[tail].pop()
-            waiting[head].append(person)
-            if kind == "go":
-                rows[person].append((name, beat))
-    return tuple([tuple(row) for row in rows])
+    return dealt(steps_of(task), flow, waiting, [[] for _ in task[1]])

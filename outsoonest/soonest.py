@@ -4,7 +4,7 @@ from outsoonest.errors import Refused
 from outsoonest.nets import coming, is_load, need_ends, need_net, need_node
 from outsoonest.residue import Residue, unbounded
 from outsoonest.runs import run_of
-from outsoonest.unrolled import check_task, doors_of, places_of, starts_of, steps_of
+from outsoonest.unrolled import check_task, doors_of, places_of, starts_of, steps_of, till
 
 
 def need_row(net, start, ends):
@@ -110,10 +110,29 @@ def led_out(task):
     return led_to(net, start, ends)
 
 
+def soonest_of(task):
+    """By beat how many of a checked task are out by it in any run that holds, at most."""
+    rows, _ = led_out(task)
+    return tuple([most for most, _ in rows])
+
+
 def soonest(task):
     """By beat, from now to the end, how many are out by it in any run that holds, at most."""
-    rows, _ = led_out(check_task(task))
-    return tuple([most for most, _ in rows])
+    return soonest_of(check_task(task))
+
+
+def led_till(task, beat):
+    """What a greatest flow leaves of the net of a checked task that ends at a beat; its start; its last node."""
+    net, start, _, _, last = net_of(till(task, beat))
+    residue = Residue(net, [0] * len(net[1]))
+    residue.go_all(start, last)
+    return residue, start, last
+
+
+def most_till(task, beat):
+    """How many of a checked task can be out by a beat at most."""
+    residue, start, _ = led_till(task, beat)
+    return residue.gone_from(start)
 
 
 def best_flow(task):

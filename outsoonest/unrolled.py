@@ -1,9 +1,9 @@
 """Tasks, the house unrolled by beats into places and arcs, and flows of it."""
 
-from outsoonest.errors import BadHouse, BadPeople, Refused
+from outsoonest.errors import BadHouse, BadPeople, NoBeat, Refused
 from outsoonest.houses import check_house, is_beat, is_place
 from outsoonest.people import is_lot_of, people_in
-from outsoonest.words import is_number, is_row_of
+from outsoonest.words import is_number, is_row_of, is_within
 
 
 def plain_task(value):
@@ -37,12 +37,34 @@ def with_people(task, people):
     return check_task((house, people, now, end))
 
 
+def need_lot_of(task, value):
+    """Any value that is a lot of a checked task's people, as a tuple; Refused for any other one."""
+    if not is_lot_of(task[1], value):
+        raise Refused(value)
+    return tuple(value)
+
+
+def of_lot(task, lot):
+    """The checked task of a lot of its people alone."""
+    house, people, now, end = task
+    return house, tuple([people[person] for person in lot]), now, end
+
+
 def part_of(task, lot):
     """The task of a lot of its people alone."""
-    house, people, now, end = check_task(task)
-    if not is_lot_of(people, lot):
-        raise Refused(lot)
-    return house, tuple([people[person] for person in lot]), now, end
+    task = check_task(task)
+    return of_lot(task, need_lot_of(task, lot))
+
+
+def need_beat_of(task, value):
+    """NoBeat for any value that is no beat from now to the end of a checked task."""
+    if not is_within(value, task[2], task[3]):
+        raise NoBeat(value)
+
+
+def till(task, beat):
+    """The checked task with its end at a beat up to it."""
+    return task[:3] + (beat,)
 
 
 def places_of(task):

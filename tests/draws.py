@@ -1,6 +1,7 @@
 """Houses, tasks and nets that are drawn, and counts of them that are not the program's own."""
 
 import itertools
+import random
 
 
 def draw_house(draw, rooms=4, passages=5, beats=6, length=3, width=2):
@@ -132,3 +133,98 @@ def draw_load(draw, net, most=4):
 def all_loads(net, most=2):
     """All loads, arcs without a bound bearing a little."""
     return itertools.product(*[range((most if arc[2] is None else arc[2]) + 1) for arc in net[1]])
+
+
+def small_task(draw, most=3000, **more):
+    """A small task, and all its runs."""
+    while True:
+        task = draw_task(draw, **more)
+        runs = all_runs(task, most)
+        if runs is not None:
+            return task, runs
+
+
+def out_beats(task, run):
+    """By person the beat from which they are out by a run, None if not by the end."""
+    rows = [followed(task, row, person) for person, row in enumerate(run)]
+    return tuple([next((beat for beat in range(task[2], task[3] + 1) if row[beat][0] == "out"), None) for row in rows])
+
+
+def lots_out(outs, people, beat):
+    """All lots that can be out by a beat, by who is out when by all runs."""
+    found = set()
+    for told in set(outs):
+        out = [person for person in range(people) if told[person] is not None and told[person] <= beat]
+        found.update(all_lots(out))
+    return found
+
+
+def most_by_beat(task, outs):
+    """By beat the most who are out by it, by who is out when by all runs."""
+    return tuple([max([len([when for when in told if when is not None and when <= beat]) for told in outs])
+                  for beat in range(task[2], task[3] + 1)])
+
+
+def order_of(people):
+    """The numbers of people, the more urgent first, of those alike the lesser number."""
+    return sorted(range(len(people)), key=lambda person: (people[person][2], person))
+
+
+def first_of_all(task, lots):
+    """The first of some lots, counted by who of the order is in them."""
+    order = order_of(task[1])
+    return min(lots, key=lambda lot: [person not in lot for person in order])
+
+
+def all_cuts(task, beat):
+    """All cuts of a small task, but such as hold alike what is from now to the beat."""
+    return list(itertools.product(*[(None,) if kind else (None,) + tuple(range(task[2], beat + 1)) for kind in task[0][0]]))
+
+
+def holding(cut, room, beat):
+    return cut[room] is not None and beat >= cut[room]
+
+
+def held_places(task, beat, cut):
+    """The (room, beat) without smoke, from now to the beat, that a cut holds."""
+    return set([(room, when) for room in range(len(cut)) for when in range(task[2], beat + 1)
+                if holding(cut, room, when) and not smoky(task[0], room, when)])
+
+
+def lets_out(task, beat, cut, people=None):
+    """How many a cut lets out by a beat, of all people or of some, by the words of the document."""
+    house, told, now, end = task
+    many = 0
+    for person in (range(len(told)) if people is None else people):
+        room, when, _ = told[person]
+        if when <= beat and not smoky(house, room, when) and not holding(cut, room, when):
+            many += 1
+    return many + sum([width for _, _, width in passed_rows(task, beat, cut)])
+
+
+def passed_rows(task, beat, cut):
+    """(passage, entered, width) of the entries from a place that is held to one that is not, up to a beat."""
+    house, _, now, _ = task
+    found = []
+    for when in range(now, beat + 1):
+        for passage, (tail, head, length, width, shut) in enumerate(house[1]):
+            comes = when + length
+            if width and when not in shut and comes <= beat and not smoky(house, tail, when) and not smoky(house, head, comes):
+                if holding(cut, tail, when) and not holding(cut, head, comes):
+                    found.append((passage, when, width))
+    return found
+
+
+def great_task(seed, people=60, end=59, crowded=False):
+    """A task as great as may be; in a crowded one no more than two rooms lead out, and not at all beats."""
+    draw = random.Random(seed)
+    if crowded:
+        rows = [draw.sample(range(18), 2) + [1, 1, ()] for _ in range(58)]
+        rows += [(0, 18, 1, 1, tuple(range(0, 60, 2))), (5, 19, 2, 1, tuple(range(1, 60, 2)))]
+        smoke = (None,) * 20
+    else:
+        rows = [(at // 3, min(19, at // 3 + draw.randint(1, 3)), draw.randint(1, 3), draw.randint(1, 3),
+                 tuple(sorted(draw.sample(range(60), 9)))) for at in range(54)] + [(17, 18, 1, 1, ())] * 6
+        smoke = tuple(range(41, 59)) + (None, None)
+    house = (0,) * 18 + (1, 1), tuple([tuple(row) for row in rows]), smoke
+    return house, tuple([(draw.randrange(18), draw.choice((0, 0, 3, 8)), draw.randrange(10)) for _ in range(people)]), 0, end

@@ -68,8 +68,8 @@ class Case(unittest.TestCase):
             self.assertTrue(same(passed, kept), (call.__name__, "changed", kept))
 
     def refuses(self, error, call, args, at, values):
-        """The call with each of the values in one place raises this error, which holds it."""
-        for value in values:
+        """The call with each of the values in one place, or lists for their tuples, raises this error, which holds it."""
+        for value in tuple(values) + tuple([listed(value) for value in values if isinstance(value, tuple)]):
             passed = list(args)
             passed[at] = value
             with self.subTest(call=call.__name__, at=at, value=repr(value)[:60]):

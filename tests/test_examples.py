@@ -1,6 +1,7 @@
-"""The examples of the document, just as they stand there."""
+"""The examples of the document, just as they stand there, and those of the README."""
 
 import doctest
+import pathlib
 import unittest
 
 FORMS = """
@@ -73,12 +74,94 @@ SOONEST = """
 [((0, 0),), ((0, 1),)]
 """
 
-EXAMPLES = {"forms": FORMS, "houses": HOUSES, "people": PEOPLE, "unrolled": UNROLLED, "flows": FLOWS, "soonest": SOONEST}
+CUTS = """
+>>> from outsoonest.cuts import begin_outside, cut_at, cut_lets, cut_wide, either_held, meets, passed
+>>> house = ((0, 0, 1), ((0, 1, 1, 2, ()), (1, 2, 1, 1, (2,))), (3, None, None))
+>>> task, run = (house, ((0, 0, 0), (0, 0, 1), (1, 1, 0)), 0, 4), [[(0, 0), (1, 1)], [(0, 0), (1, 3)], [(1, 4)]]
+>>> cut_at(task, 2), cut_wide(task, 2), cut_at(task, 4), passed(task, 4, (0, 1, None)), meets(task, 4, run, cut_at(task, 4))
+((0, 1, None), (0, 1, None), (0, 1, None), ((1, 1, 1), (1, 3, 1)), True)
+>>> begin_outside(task, 4, (None, 1, None)), cut_lets(task, 4, (None, 1, None)), either_held(task, (None, 1, None), (2, None, None))
+((0, 1), 4, (2, 1, None))
+"""
+
+LOTS = """
+>>> from outsoonest.crowds import crowd_can, crowd_paper, fullest, most_from
+>>> from outsoonest.lots import can_be_out, crowd_holds, first_out, left_papers, most_out
+>>> house = ((0, 0, 1, 0), ((1, 0, 1, 1, ()), (0, 2, 1, 1, ()), (3, 0, 1, 2, ()), (3, 2, 4, 1, ())), (None,) * 4)
+>>> task = (house, ((1, 0, 2), (1, 0, 0), (3, 0, 1), (3, 0, 0)), 0, 5)
+>>> most_out(task, 3), first_out(task, 3), first_out(task, 4), can_be_out(task, 3, (0, 2))
+(2, (1, 3), (0, 1, 2, 3), True)
+>>> [person for person, paper in left_papers(task, 3)], crowd_holds(task, 3, ("crowd", (0, 1, 3), (1, 0, None, 0)))
+([2, 0], True)
+>>> most_from(house, 0, 4, (1, 3)), crowd_can(house, 0, 4, (0, 2, 0, 2)), crowd_paper(house, 0, 4, (0, 5, 0, 0)), fullest(house, 0, 4, (3, 1))
+(4, True, (1,), (0, 0, 0, 4))
+"""
+
+JOINED = """
+>>> from outsoonest.joined import both, both_flow, both_holds, joined, people_of
+>>> from outsoonest.soonest import soonest
+>>> from outsoonest.unrolled import part_of
+>>> house = ((0, 0, 1, 0), ((1, 0, 1, 1, ()), (0, 2, 1, 1, ()), (3, 0, 1, 2, ()), (3, 2, 4, 1, ())), (None,) * 4)
+>>> task = (house, ((1, 0, 2), (1, 0, 0), (3, 0, 1), (3, 0, 0)), 0, 3)
+>>> soonest(task), both(task), both_holds(task, (1, 3), both_flow(task)), people_of(task, joined(task)[1])
+((0, 0, 1, 2), ((1, 3), (0, 0, 1, 2)), True, (1, 3))
+"""
+
+WAYS = """
+>>> from outsoonest.runs import out_by, outs
+>>> from outsoonest.ways import exchanged, is_queued, longest_stands, plan, plan_holds, queued
+>>> house = ((0, 0, 1), ((0, 1, 1, 1, ()), (1, 2, 1, 1, ())), (None, None, None))
+>>> task, run = (house, ((1, 0, 5), (0, 0, 0)), 0, 4), (((1, 1),), ((0, 0), (1, 2)))
+>>> exchanged(task, run, 0, 1, 1), is_queued(task, run), longest_stands(task, run)
+((((1, 2),), ((0, 0), (1, 1))), True, (0, 1, None))
+>>> plan(task), outs(task, plan(task)[1]), plan_holds(task, ((0, 1), run))
+(((0, 1), (((1, 0),), ((0, 0), (1, 1)))), (1, 2), False)
+"""
+
+STATE = """
+>>> from outsoonest.state import follow, out_till, start, state_of, steps_told, task_of, with_word
+>>> house = ((0, 0, 1), ((0, 1, 1, 1, ()), (1, 2, 2, 2, (0,)), (0, 2, 4, 1, ())), (None, None, None))
+>>> rows = [("found", 0, 1), ("found", 1, 0), ("told", (0, "stand")), ("beat", (0, "stand")), ("smoke", 0, 3)]
+>>> state = state_of(house, 9, rows)
+>>> state[3], task_of(state)[1][2:], steps_told(state)
+((('here', 1, 1, 1), ('here', 1, 1, 0)), (1, 9), (None, None))
+>>> state = follow(follow(state, ("beat", (1, "stand"))), ("smoke", 1, 2))
+>>> state[3], task_of(state)[0], with_word(state, "lost")
+((('here', 2, 3, 1), ('lost', 1, 2, 0)), (0,), (1,))
+>>> out_till(follow(state, ("beat", (None, None))), 3)
+1
+"""
+
+LED = """
+>>> from outsoonest.led import behind, kept_run, led_run
+>>> from outsoonest.runs import out_by
+>>> house = ((0, 1), ((0, 1, 1, 1, ()), (0, 1, 2, 1, ())), (None, None))
+>>> task = (house, ((0, 0, 1), (0, 0, 0)), 0, 4)
+>>> run = (((0, 0),), ((1, 0),))
+>>> later, rest = behind(task, run)
+>>> later[1:], rest, kept_run(task, [[(0, 0)], [(0, 0)]]), out_by(task, led_run(task, [[(1, 3)], [(1, 2)]]))
+((((1, 1, 1), (1, 2, 0)), 1, 4), ((), ()), ((), ((0, 0),)), (0, 1, 2, 2, 2))
+"""
+
+TURNED = """
+>>> from outsoonest.turned import fewest_turned, is_best, prices_hold, steps_of_run, turned_by_run
+>>> house = ((0, 1), ((0, 1, 1, 1, ()), (0, 1, 1, 1, ())), (None, None))
+>>> task = (house, ((0, 0, 1), (0, 0, 0), (0, 0, 2)), 0, 2)
+>>> number, run, prices = fewest_turned(task, ("stand", 1, 1))
+>>> number, is_best(task, run), turned_by_run(task, ("stand", 1, 1), run), steps_of_run(task, run)
+(1, True, (2,), ('stand', 1, 0))
+>>> prices_hold(task, ("stand", 1, 1), 1, prices), prices_hold(task, ("stand", 1, 1), 2, prices)
+(True, False)
+"""
+
+EXAMPLES = {"forms": FORMS, "houses": HOUSES, "people": PEOPLE, "unrolled": UNROLLED, "flows": FLOWS, "soonest": SOONEST, "cuts": CUTS,
+            "lots": LOTS, "joined": JOINED, "ways": WAYS, "state": STATE, "led": LED, "turned": TURNED}
 
 
 class Examples(unittest.TestCase):
     def test_examples(self):
-        for name, text in EXAMPLES.items():
+        readme = pathlib.Path(__file__).parent.parent / "README.md"
+        for name, text in dict(EXAMPLES, readme=readme.read_text("ascii")).items():
             with self.subTest(name):
                 test = doctest.DocTestParser().get_doctest(text, {}, name, None, 0)
                 told = []

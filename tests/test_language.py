@@ -75,6 +75,19 @@ def bound(function):
     return names + [node.id for node in ast.walk(function) if isinstance(node, ast.Name) and isinstance(node.ctx, ast.Store)]
 
 
+def base_inits(tree):
+    """Where a class calls the `__init__` of its base class, in its own, with its own object first."""
+    found = []
+    for one in [node for node in ast.walk(tree) if isinstance(node, ast.ClassDef)]:
+        for method in [node for node in one.body if isinstance(node, ast.FunctionDef) and node.name == "__init__"]:
+            for node in ast.walk(method):
+                if (isinstance(node, ast.Call) and isinstance(node.func, ast.Attribute) and node.func.attr == "__init__"
+                        and ast.unparse(node.func.value) in [ast.unparse(base) for base in one.bases]
+                        and ast.unparse(node.args[0]) == "self"):
+                    found.append(node.func)
+    return found
+
+
 def own_methods():
     return [node.name for tree in TREES.values() for one in ast.walk(tree) if isinstance(one, ast.ClassDef)
             for node in one.body if isinstance(node, ast.FunctionDef)]
@@ -174,12 +187,21 @@ class Names(unittest.TestCase):
         for name, tree in TREES.items():
             for node in ast.walk(tree):
                 if isinstance(node, ast.Attribute):
-                    self.assertFalse(node.attr in NEVER or node.attr.startswith("_"), (name, node.attr))
+                    self.assertFalse(node.attr in NEVER or node.attr.startswith("_") and node not in base_inits(tree),
+                                     (name, node.attr))
                     if isinstance(node.ctx, ast.Store):
                         self.assertNotIn(node.attr, NO_ATTRIBUTES)
                         self.assertNotIn(node.attr, methods)
             for word in methods:
                 self.assertFalse(word != "__init__" and (word.startswith("_") or hasattr("", word) or hasattr([], word)), word)
+
+    def test_attributes_that_are_read_are_assigned(self):
+        parts = [node for tree in TREES.values() for node in ast.walk(tree)]
+        assigned = [node.attr for node in parts if isinstance(node, ast.Attribute) and isinstance(node.ctx, ast.Store)]
+        called = [id(node.func) for node in parts if isinstance(node, ast.Call)]
+        for node in parts:
+            if isinstance(node, ast.Attribute) and isinstance(node.ctx, ast.Load) and id(node) not in called:
+                self.assertIn(node.attr, assigned)
 
     def test_words(self):
         for path in files():
@@ -206,7 +228,8 @@ class Statements(unittest.TestCase):
                                     and isinstance(node.value.value, str), (name, node.lineno))
 
     def test_module_level(self):
-        plain = (ast.Constant, ast.Tuple, ast.BinOp, ast.UnaryOp, ast.Name, ast.operator, ast.unaryop, ast.expr_context)
+        plain = (ast.Constant, ast.Tuple, ast.Dict, ast.BinOp, ast.UnaryOp, ast.Name, ast.operator, ast.unaryop,
+                 ast.expr_context)
         for name, tree in TREES.items():
             for node in tree.body[1:]:
                 self.assertIsInstance(node, (ast.ImportFrom, ast.FunctionDef, ast.ClassDef, ast.Assign), name)
@@ -214,6 +237,22 @@ class Statements(unittest.TestCase):
                     self.assertEqual([type(target) for target in node.targets], [ast.Name])
                     self.assertTrue(all(isinstance(part, plain) for part in ast.walk(node.value)), name)
         self.assertEqual(len(TREES["__init__"].body), 1)
+
+    def test_tables_are_read_alone(self):
+        for name, tree in TREES.items():
+            for node in tree.body:
+                if isinstance(node, ast.Assign) and isinstance(node.value, ast.Dict):
+                    self.assertFalse([part for value in node.value.values for part in ast.walk(value)
+                                      if isinstance(part, (ast.Dict, ast.List))])
+                    word = node.targets[0].id
+                    self.assertFalse([other for other in TREES if word in imported(TREES[other])])
+                    read = [id(part.value) for part in ast.walk(tree) if isinstance(part, ast.Subscript)]
+                    read += [id(other) for part in ast.walk(tree) if isinstance(part, ast.Compare)
+                             and isinstance(part.ops[0], (ast.In, ast.NotIn)) for other in part.comparators]
+                    for part in ast.walk(tree):
+                        if isinstance(part, ast.Name) and part.id == word and isinstance(part.ctx, ast.Load):
+                            self.assertIn(id(part), read, (name, word))
+                    self.assertNotIn(word, list(changed(tree)))
 
     def test_functions(self):
         for name, tree in TREES.items():
