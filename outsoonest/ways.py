@@ -4,7 +4,7 @@ from outsoonest.errors import Refused
 from outsoonest.joined import best_of
 from outsoonest.linking import first_of, led_people
 from outsoonest.people import in_order, is_lot_of, need_person
-from outsoonest.runs import (arcs_taken, flow_of_run, need_run, out_numbers, outs_of, place_at, run_or_none)
+from outsoonest.runs import arcs_taken, flow_of_run, need_run, out_numbers, outs_of, place_at, run_or_none
 from outsoonest.soonest import soonest_of
 from outsoonest.unrolled import check_task, need_flow_of, places_of, starts_of, steps_of
 from outsoonest.words import is_row_of, is_within
