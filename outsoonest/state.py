@@ -194,8 +194,9 @@ def task_of(state):
 
 
 def steps_told(state):
-    """By person the step that they are told, or None."""
-    return tuple(state[4])
+    """By person of the task the step that they are told, or None."""
+    persons, _ = task_of(state)
+    return tuple([state[4][person] for person in persons])
 
 
 def with_word(state, word):

@@ -6,6 +6,7 @@ import unittest
 
 from outsoonest.errors import BadHouse, BadRow, NotLet, Refused
 from outsoonest.state import follow, out_till, start, state_of, steps_told, task_of, with_word
+from outsoonest.turned import check_told
 from outsoonest.unrolled import check_task
 from tests.books import PlainBook, draw_news
 from tests.draws import draw_house, great_task
@@ -118,7 +119,7 @@ class NotLetWords(Case):
             for step in ("stand", 0, 2):
                 self.assertEqual(len(follow(state, (word, (step, None, None, None)))[3]), 4)
         self.bad("step", state, ("beat", (None,) * 4))
-        self.assertEqual(steps_told(follow(state, ("told", (None,) * 4))), (None,) * 4)
+        self.assertEqual(follow(state, ("told", (None,) * 4))[4], (None,) * 4)
         shut = follow(state, ("shut", 0, 2, 2))
         for word in ("told", "beat"):
             self.bad("step", shut, (word, (0, None, None, None)))
@@ -177,8 +178,24 @@ class Following(Case):
         self.gives((None, 2, None), steps_told, behind(rows + [("told", (None, 2, None))]))
         self.gives((None,) * 3, steps_told, behind(rows + [("beat", ("stand",) * 3)]))
         # The lost are told nothing, and have nothing told any more.
-        self.gives((None, None, None), steps_told, behind(rows + [("smoke", 0, 0)]))
-        self.gives((None, None, None), steps_told, behind(rows + [("smoke", 0, 0), ("clear", 0)]))
+        for more in ([("smoke", 0, 0)], [("smoke", 0, 0), ("clear", 0)]):
+            self.assertEqual(behind(rows + more)[4], (None, None, None))
+            self.gives((None,), steps_told, behind(rows + more))
+
+    def test_told_steps_are_those_of_the_persons_of_the_task(self):
+        house = ((0, 0, 1), ((0, 2, 1, 1, ()), (0, 1, 1, 1, ()), (1, 2, 3, 2, ())), (None, None, None))
+        rows = [("found", 0, 1), ("found", 0, 2), ("found", 1, 0), ("beat", (0, "stand", "stand")), ("told", (None, 1, "stand"))]
+        self.gives((1, "stand"), steps_told, behind(rows, house, 5))
+        # Somebody is lost; somebody comes behind the end, and at the end; nobody is left; nobody was found.
+        self.gives((2,), steps_told, behind([("found", 0, 1), ("found", 1, 2), ("told", (0, 2)), ("smoke", 0, 0)], house, 5))
+        rows = [("found", 1, 1), ("found", 0, 2), ("beat", (2, "stand")), ("told", (None, 0))]
+        self.gives((0,), steps_told, behind(rows, house, 2))
+        self.gives((None, 0), steps_told, behind(rows, house, 3))
+        self.gives((), steps_told, behind([("found", 0, 1), ("beat", (0,))], house, 5))
+        self.gives((), steps_told, start(house, 5))
+        # They are told steps of the task.
+        state = behind(rows, house, 5)
+        self.assertEqual(check_told(task_of(state)[1], steps_told(state)), (None, 0))
 
     def test_lost(self):
         rows = [("found", 0, 3), ("found", 1, 4), ("open", 1, 0, 9)]
@@ -273,7 +290,11 @@ class Drawn(Case):
         late = [at for at, person in enumerate(people) if person[0] == "here" and person[2] > end]
         groups = [with_word(state, "out"), with_word(state, "lost"), persons, tuple(late)]
         self.assertEqual(sorted(sum(groups, ())), list(range(len(people))))
-        self.gives(steps, steps_told, state)
+        told = tuple([steps[person] for person in persons])
+        self.gives(told, steps_told, state)
+        # At the last beat a step can be told, but nobody has one.
+        if now < end:
+            self.assertEqual(check_told(task, told), told)
         for beat in range(now + 1):
             self.gives(len([1 for word, _, when, _ in people if word == "out" and when <= beat]), out_till, state, beat)
         if now < end:
