@@ -118,11 +118,15 @@ def cut_of(task, within):
     return tuple(first)
 
 
+def least_cut(task):
+    """By room the first beat of the places that all cuts hold which let out as few of a checked task as can be."""
+    residue, start, _ = led_till(task, task[3])
+    return cut_of(task, residue.met_from(start))
+
+
 def cut_at(task, beat):
     """By room the first beat of the places that all cuts hold which let out as few as can be."""
-    task = need_till(task, beat)
-    residue, start, _ = led_till(task, beat)
-    return cut_of(task, residue.met_from(start))
+    return least_cut(need_till(task, beat))
 
 
 def cut_wide(task, beat):

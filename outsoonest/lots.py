@@ -74,9 +74,8 @@ def crowd_left(task, linking, person):
     return "crowd", tuple(persons), cut_of(task, met)
 
 
-def left_papers(task, beat):
-    """(person, paper) for all who are not of the first lot, in the order."""
-    task = need_till(task, beat)
+def papers_of(task):
+    """(person, paper) for all who are not of the first lot of a checked task by its end, in the order."""
     linking = led_first(task)
     starts = starts_of(task)
     rows = []
@@ -86,6 +85,11 @@ def left_papers(task, beat):
         elif not linking.is_led(person):
             rows.append((person, crowd_left(task, linking, person)))
     return tuple(rows)
+
+
+def left_papers(task, beat):
+    """(person, paper) for all who are not of the first lot, in the order."""
+    return papers_of(need_till(task, beat))
 
 
 def is_crowd_paper(task, value):

@@ -144,6 +144,17 @@ def small_task(draw, most=3000, **more):
             return task, runs
 
 
+def busy_task(draw, most=1500, **more):
+    """A small task and all its runs, where by some beat somebody can be out, and not all can be who could be alone."""
+    while True:
+        task, runs = small_task(draw, most, **more)
+        outs = set([out_beats(task, run) for run in runs])
+        for beat in range(task[2] + 1, task[3] + 1):
+            lots = lots_out(outs, len(task[1]), beat)
+            if max([len(lot) for lot in lots]) < len([lot for lot in lots if len(lot) == 1]):
+                return task, runs
+
+
 def out_beats(task, run):
     """By person the beat from which they are out by a run, None if not by the end."""
     rows = [followed(task, row, person) for person, row in enumerate(run)]

@@ -154,8 +154,50 @@ TURNED = """
 (True, False)
 """
 
+WHATIF = """
+>>> from outsoonest.whatif import delay, least_end, lost_with, paper_shows, passage_falls, passage_gains
+>>> house = ((0, 0, 1), ((0, 2, 1, 1, ()), (0, 1, 1, 1, ()), (1, 2, 1, 2, ())), (None, None, None))
+>>> task = (house, ((0, 0, 0), (0, 0, 1), (0, 0, 2)), 0, 2)
+>>> passage_falls(task), passage_gains(task), delay(task), lost_with(task, 0)
+(((0, 1, 2), (0, 0, 1), (0, 0, 1)), ((0, 1, 0), (0, 0, 0), (0, 0, 0)), (0, 1, 2), ((1, 2), ()))
+>>> end, paper = least_end((house, task[1], 0, 0))
+>>> end, paper[0], paper_shows(task, 1, paper)
+(2, 1, True)
+"""
+
+FLOORS = """
+>>> from outsoonest.floors import by_floors, came_to, rest_task
+>>> from outsoonest.soonest import soonest
+>>> tower = ((0, 0, 0, 1), ((0, 1, 2, 2, ()), (1, 2, 1, 1, ()), (2, 3, 1, 1, ())), (None,) * 4)
+>>> task = (tower, ((0, 0, 0), (0, 0, 0), (1, 0, 0)), 0, 6)
+>>> came_to(task, ((0, 1), 1)), rest_task(task, ((0, 1), 1))[1]
+((1, 1, 3, 3, 3, 3, 3), ((1, 0, 0), (1, 2, 0), (1, 2, 0)))
+>>> by_floors(task, [((0, 1), 1), ((0, 1, 2), 2)]) == soonest(task), soonest(task)
+(True, (0, 0, 1, 1, 2, 3, 3))
+"""
+
+BOOK = """
+>>> from outsoonest.book import new_book, open_book
+>>> book = new_book(((0, 1), ((0, 1, 1, 2, ()),), (None, None)), 5)
+>>> book.tell(("found", 0, 1)), book.tell(("smoke", 0, 3)), book.tell_cut(("clear", 0), 0), book.tell(("beat", [0]))
+(2, 3, False, 4)
+>>> book.fold_cut(9), book.fold(), len(book.journal.told), open_book(book.both_pages()).state == book.state
+(False, None, 1, True)
+"""
+
+REASONS = """
+>>> from outsoonest.reasons import alone, narrower, told_cut, why, wider, yielding
+>>> house = ((0, 0, 1), ((0, 1, 1, 1, ()), (1, 2, 1, 1, ())), (None, None, None))
+>>> task, run = (house, ((0, 0, 1), (0, 0, 0)), 0, 5), [((0, 1), (1, 2)), ((0, 0), (1, 1))]
+>>> why(task, run, 1, 2), why(task, run, 0, 2)[:2], why(task, run, 0, 1)[0], alone(task, 0)
+(('out', 2), ('instead', (1,)), 'never', 2)
+>>> told_cut(task, 2, (0, 2, None)), yielding(task, 2, (1,), 0), wider(task, 2), narrower(task, 2)
+((('enter', 0, 0, 1),), (1,), (), ((0, 0), (1, 1)))
+"""
+
 EXAMPLES = {"forms": FORMS, "houses": HOUSES, "people": PEOPLE, "unrolled": UNROLLED, "flows": FLOWS, "soonest": SOONEST, "cuts": CUTS,
-            "lots": LOTS, "joined": JOINED, "ways": WAYS, "state": STATE, "led": LED, "turned": TURNED}
+            "lots": LOTS, "joined": JOINED, "ways": WAYS, "state": STATE, "led": LED, "turned": TURNED,
+            "whatif": WHATIF, "floors": FLOORS, "book": BOOK, "reasons": REASONS}
 
 
 class Examples(unittest.TestCase):

@@ -53,6 +53,21 @@ FUNCTIONS = {
     "turned": ("check_told(task, value)", "steps_of_run(task, run)", "turned_by_run(task, steps, run)", "is_best(task, value)",
                "turn_net(task, steps)", "fewest_turned(task, steps)", "prices_worth(task, steps, prices)",
                "prices_hold(task, steps, number, value)"),
+    "whatif": ("without_passage(task, passage)", "with_wider(task, passage)", "with_later(task)", "passage_falls(task)",
+               "passage_gains(task)", "delay(task)", "lost_with(task, passage)", "least_end(task)", "end_holds(task, value)",
+               "paper_shows(task, end, value)"),
+    "floors": ("check_floor(task, value)", "came_to(task, floor)", "rest_task(task, floor)", "by_floors(task, floors)"),
+    "journals": ("plain_journal(pages)", "open_journal(pages)", "journal_cuts(journal)"),
+    "book": ("plain_book(pages)", "new_book(house, end)", "open_book(pages)", "fold_length(book)", "space(book)"),
+    "reasons": ("alone(task, person)", "alone_cut(task, person)", "why(task, run, person, beat)",
+                "why_holds(task, run, person, beat, value)", "yielding(task, beat, lot, person)", "wider(task, beat)",
+                "narrower(task, beat)", "told_cut(task, beat, cut)"),
+}
+
+# By module and class the methods that stand in the body of the class.
+METHODS = {
+    ("journals", "Journal"): ("__init__(self)", "lay(self, row)", "keep(self)", "loose(self)", "begin(self, rows)", "cut(self, left)"),
+    ("book", "Book"): ("both_pages(self)", "tell(self, row)", "tell_cut(self, row, left)", "fold(self)", "fold_cut(self, left)"),
 }
 
 ATTRIBUTES = {
@@ -72,6 +87,18 @@ class Interface(unittest.TestCase):
                     function = getattr(module, word)
                     self.assertEqual(function.__module__, module.__name__)
                     self.assertEqual(word + str(inspect.signature(function)), row)
+
+
+    def test_methods(self):
+        for (name, word), rows in METHODS.items():
+            module = importlib.import_module("outsoonest." + name)
+            found = getattr(module, word)
+            self.assertEqual(found.__module__, module.__name__)
+            for row in rows:
+                with self.subTest(module=name, method=row):
+                    method = row.split("(")[0]
+                    self.assertIn(method, vars(found))
+                    self.assertEqual(method + str(inspect.signature(vars(found)[method])), row)
 
 
 class Errors(unittest.TestCase):
