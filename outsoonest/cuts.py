@@ -5,7 +5,7 @@ from outsoonest.houses import is_smoke
 from outsoonest.people import need_person
 from outsoonest.runs import out_numbers, run_or_none
 from outsoonest.soonest import led_till, most_till
-from outsoonest.unrolled import check_task, need_beat_of, places_of, starts_of, steps_of, till
+from outsoonest.unrolled import check_task, ending, need_beat_of, places_of, starts_of, steps_of
 
 
 def is_cut(task, value):
@@ -69,7 +69,7 @@ def need_till(task, beat):
     """Any task and a beat of it: the task, as tuples, that ends at this beat."""
     task = check_task(task)
     need_beat_of(task, beat)
-    return till(task, beat)
+    return ending(task, beat)
 
 
 def begin_outside(task, beat, cut):
@@ -90,14 +90,19 @@ def cut_lets(task, beat, cut):
     return lets(task, need_cut(task, cut))
 
 
-def meets(task, beat, run, cut):
-    """Whether any values are a run that holds and a cut that lets out just those who are out by the beat."""
-    part = need_till(task, beat)
-    task = check_task(task)
+def meets_by(task, beat, run, cut):
+    """Whether any values are a run of a checked task that holds and a cut that lets out just those out by a beat."""
     run = run_or_none(task, run)
     if run is None or not is_cut(task, cut):
         return False
-    return out_numbers(task, run)[beat - task[2]] == lets(part, cut)
+    return out_numbers(task, run)[beat - task[2]] == lets(ending(task, beat), cut)
+
+
+def meets(task, beat, run, cut):
+    """Whether any values are a run that holds and a cut that lets out just those who are out by the beat."""
+    task = check_task(task)
+    need_beat_of(task, beat)
+    return meets_by(task, beat, run, cut)
 
 
 def cut_holds(task, beat, value):

@@ -7,7 +7,7 @@ from outsoonest.lots import need_out
 from outsoonest.people import need_person
 from outsoonest.runs import need_run, outs_of
 from outsoonest.soonest import led_till, most_till
-from outsoonest.unrolled import check_task, need_beat_of, of_lot, steps_of, till
+from outsoonest.unrolled import check_task, ending, need_beat_of, of_lot, steps_of
 from outsoonest.words import is_ascending, is_number, is_row_of
 
 
@@ -48,7 +48,7 @@ def need_asked(task, run, person, beat):
     told = need_run(task, run)
     need_person(task[1], person)
     need_beat_of(task, beat)
-    part = till(task, beat)
+    part = ending(task, beat)
     since = tuple([when if when is not None and when <= beat else None for when in outs_of(task, told)])
     if len(out_of(since)) < most_till(part, beat):
         raise Refused(run)

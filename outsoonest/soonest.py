@@ -4,7 +4,7 @@ from outsoonest.errors import Refused
 from outsoonest.nets import coming, is_load, need_ends, need_net, need_node
 from outsoonest.residue import Residue, unbounded
 from outsoonest.runs import run_of
-from outsoonest.unrolled import check_task, doors_of, places_of, starts_of, steps_of, till
+from outsoonest.unrolled import check_task, doors_of, ending, places_of, starts_of, steps_of
 
 
 def need_row(net, start, ends):
@@ -123,7 +123,7 @@ def soonest(task):
 
 def led_till(task, beat):
     """What a greatest flow leaves of the net of a checked task that ends at a beat; its start; its last node."""
-    net, start, _, _, last = net_of(till(task, beat))
+    net, start, _, _, last = net_of(ending(task, beat))
     residue = Residue(net, [0] * len(net[1]))
     residue.go_all(start, last)
     return residue, start, last

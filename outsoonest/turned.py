@@ -154,14 +154,19 @@ def turn_net(task, steps):
     return net.many, tuple(net.arcs), net.persons, net.ends, net.rises
 
 
-def fewest_turned(task, steps):
-    """How many are turned at least by a best plan, some best plan that turns so many, and prices that show it."""
-    task = check_task(task)
-    net = Turning(task, need_told(task, steps))
+def turning_fewest(task, steps):
+    """What fewest_turned tells of a checked task and told steps of it."""
+    net = Turning(task, steps)
     led = net.cheapest(task)
     load = led.load()
     number = sum([many * arc[3] for many, arc in zip(load, net.arcs)])
     return number, net.run_by(task, load), tuple(led.height[:net.many])
+
+
+def fewest_turned(task, steps):
+    """How many are turned at least by a best plan, some best plan that turns so many, and prices that show it."""
+    task = check_task(task)
+    return turning_fewest(task, need_told(task, steps))
 
 
 def is_prices(net, value):

@@ -62,7 +62,7 @@ def need_beat_of(task, value):
         raise NoBeat(value)
 
 
-def till(task, beat):
+def ending(task, beat):
     """The checked task with its end at a beat up to it."""
     return task[:3] + (beat,)
 

@@ -5,7 +5,7 @@ from outsoonest.houses import BEATS, MOST_WIDTH, need_passage, with_width
 from outsoonest.linking import first_of
 from outsoonest.lots import is_crowd_paper, papers_of
 from outsoonest.soonest import most_till, soonest_of
-from outsoonest.unrolled import check_task, starts_of, till
+from outsoonest.unrolled import check_task, ending, starts_of
 from outsoonest.words import is_row_of, is_within
 
 
@@ -108,7 +108,7 @@ def least_of(task):
 
 def paper_by(task, beat):
     """The paper of the first by the order who cannot be out by a beat beside those ahead who can."""
-    return papers_of(till(task, beat))[0]
+    return papers_of(ending(task, beat))[0]
 
 
 def least_end(task):
@@ -135,7 +135,7 @@ def paper_shows(task, end, value):
         raise NoBeat(end)
     if not is_row_of(value, 2) or not is_within(value[0], 0, len(task[1]) - 1):
         return False
-    task = till(task, end)
+    task = ending(task, end)
     if is_row_of(value[1], 1):
         return value[1][0] == "nowhere" and starts_of(task)[value[0]] is None
     return is_crowd_paper(task, value[1])

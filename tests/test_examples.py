@@ -195,9 +195,52 @@ REASONS = """
 ((('enter', 0, 0, 1),), (1,), (), ((0, 0), (1, 1)))
 """
 
+OVERVIEW = """
+>>> from outsoonest.desk import Desk
+>>> desk = Desk(((0, 1), ((0, 1, 1, 1, ()),), (4, None)), 6)
+>>> [desk.say(line) for line in ("found 0 1", "found 0 0", "best", "lot", "tell s 0")]
+['person 0', 'person 1', '0 1 2 2 2 2 2', '0 1', 'told s 0']
+"""
+
+DRILLS = """
+>>> from outsoonest.drills import beat_falls, drill_holds, drill_papers, first_fall, is_soonest, lost_in_all, task_at
+>>> house = ((0, 0, 1), ((0, 1, 1, 2, ()), (1, 2, 1, 1, ())), (None, None, None))
+>>> task, late = (house, ((0, 0, 0), (0, 0, 1)), 0, 4), [[(0, 1), (1, 2)], [(0, 2)]]
+>>> task_at(task, late, 2), beat_falls(task, late, 3), beat_falls(task, late, 4), first_fall(task, late, 4), lost_in_all(task, late, 4)
+((((0, 0, 1), ((0, 1, 1, 2, ()), (1, 2, 1, 1, ())), (None, None, None)), ((1, 2, 0), (0, 2, 1)), 2, 4), (1, 0, 0), (0, 0, 0, 1), 3, 1)
+>>> is_soonest(task, [[(0, 0), (1, 1)], [(0, 0), (1, 2)]]), drill_holds(task, late, 4, drill_papers(task, late, 4))
+(True, True)
+"""
+
+WHOLE = """
+>>> from outsoonest.world import World
+>>> from outsoonest.meaning import best_now, falls, lot_now, steps_now, turned_now
+>>> world = World(((0, 0, 1, 0), ((1, 0, 1, 1, ()), (0, 2, 1, 1, ()), (3, 0, 1, 2, ()), (3, 2, 4, 1, ())), (None,) * 4), 6)
+>>> [world.hear(("found", room, urgency)) for room, urgency in ((1, 2), (1, 0), (3, 1), (3, 0))]
+[2, 3, 4, 5]
+>>> best_now(world.book.state), lot_now(world.book.state), world.tell() == steps_now(world.book.state), turned_now(world.book.state)
+((0, 0, 1, 2, 4, 4, 4), (0, 1, 2, 3), True, 0)
+>>> falls(world.book.state, ("stand",) * 4), world.hear(("smoke", 0, 3)), best_now(world.book.state)
+((0, 1, 1, 2, 0, 0), 7, (0, 0, 1, 2, 3, 4, 4))
+"""
+
+DESK = """
+>>> from outsoonest.desk import Desk
+>>> from outsoonest.drawing import house_text, read_house
+>>> house = read_house("rooms ..>\\npassage 0 1 1 1 -\\npassage 1 2 1 1 3,4\\nsmoke 0 5")
+>>> house[1:], house_text(house) == "rooms ..>\\npassage 0 1 1 1 -\\npassage 1 2 1 1 3,4\\nsmoke 0 5"
+((((0, 1, 1, 1, ()), (1, 2, 1, 1, (3, 4))), (5, None, None)), True)
+>>> desk = Desk(house, 8)
+>>> [desk.say(line) for line in ("found 0 2", "found 0 0", "best", "lot", "tell s 0", "go", "go s 1", "clear 2")]
+['person 0', 'person 1', '0 0 1 2 2 2 2 2 2', '0 1', 'told s 0', 'beat 1', 'beat 2', 'refused']
+>>> desk.say("draw").split("\\n")
+['beat 2 of 8', '0 . 2 - 0', '1 . - - 0', '2 > 0 - 0', '0 0>1 1 1 open', '1 1>2 1 1 open', 'told - -']
+"""
+
 EXAMPLES = {"forms": FORMS, "houses": HOUSES, "people": PEOPLE, "unrolled": UNROLLED, "flows": FLOWS, "soonest": SOONEST, "cuts": CUTS,
             "lots": LOTS, "joined": JOINED, "ways": WAYS, "state": STATE, "led": LED, "turned": TURNED,
-            "whatif": WHATIF, "floors": FLOORS, "book": BOOK, "reasons": REASONS}
+            "whatif": WHATIF, "floors": FLOORS, "book": BOOK, "reasons": REASONS,
+            "overview": OVERVIEW, "drills": DRILLS, "whole": WHOLE, "desk": DESK}
 
 
 class Examples(unittest.TestCase):

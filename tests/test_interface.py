@@ -62,12 +62,21 @@ FUNCTIONS = {
     "reasons": ("alone(task, person)", "alone_cut(task, person)", "why(task, run, person, beat)",
                 "why_holds(task, run, person, beat, value)", "yielding(task, beat, lot, person)", "wider(task, beat)",
                 "narrower(task, beat)", "told_cut(task, beat, cut)"),
+    "drills": ("task_at(task, run, beat)", "most_still(task, run, beat, till)", "beat_falls(task, run, till)", "fall_table(task, run)",
+               "is_soonest(task, run)", "drill_papers(task, run, till)", "drill_holds(task, run, till, value)",
+               "first_fall(task, run, till)", "lost_in_all(task, run, till)"),
+    "meaning": ("best_now(state)", "lot_now(state)", "steps_now(state)", "turned_now(state)", "falls(state, steps)",
+                "meaning(house, end, rows)"),
+    "drawing": ("house_text(house)", "read_house(text)", "drawn(state)"),
 }
 
 # By module and class the methods that stand in the body of the class.
 METHODS = {
     ("journals", "Journal"): ("__init__(self)", "lay(self, row)", "keep(self)", "loose(self)", "begin(self, rows)", "cut(self, left)"),
     ("book", "Book"): ("both_pages(self)", "tell(self, row)", "tell_cut(self, row, left)", "fold(self)", "fold_cut(self, left)"),
+    ("world", "World"): ("__init__(self, house, end)", "hear(self, row)", "tell(self)", "go(self, steps=None)", "reopen(self)",
+                         "came_out(self)"),
+    ("desk", "Desk"): ("__init__(self, house, end)", "say(self, line)"),
 }
 
 ATTRIBUTES = {

@@ -16,7 +16,7 @@ NODES = (ast.Module, ast.Expr, ast.ImportFrom, ast.alias, ast.FunctionDef, ast.a
          ast.ExceptHandler, ast.Delete, ast.Call, ast.keyword, ast.Name, ast.Attribute, ast.Subscript, ast.Slice, ast.Tuple,
          ast.List, ast.Dict, ast.ListComp, ast.DictComp, ast.comprehension, ast.Compare, ast.BoolOp, ast.BinOp, ast.UnaryOp,
          ast.IfExp, ast.Constant, ast.expr_context, ast.boolop, ast.unaryop, ast.cmpop, ast.Add, ast.Sub, ast.Mult,
-         ast.FloorDiv, ast.Mod, ast.BitAnd, ast.BitOr, ast.BitXor, ast.LShift, ast.RShift)
+         ast.FloorDiv, ast.Mod, ast.BitAnd, ast.BitOr, ast.BitXor, ast.LShift, ast.RShift, ast.JoinedStr, ast.FormattedValue)
 
 BUILTINS = ("len", "range", "enumerate", "zip", "min", "max", "sum", "abs", "sorted", "reversed", "int", "str", "bool", "list",
             "tuple", "dict", "isinstance", "ord", "any", "all", "divmod", "ValueError", "KeyError")
@@ -258,14 +258,22 @@ class Statements(unittest.TestCase):
         for name, tree in TREES.items():
             for node in ast.walk(tree):
                 if isinstance(node, ast.FunctionDef):
-                    self.assertFalse(node.decorator_list or node.args.defaults or node.args.vararg or node.args.kwarg
+                    self.assertFalse(node.decorator_list or node.args.vararg or node.args.kwarg
                                      or node.args.posonlyargs or node.args.kwonlyargs, (name, node.name))
+                    self.assertEqual([one for one in node.args.defaults if not isinstance(one, ast.Constant)], [], (name, node.name))
                     self.assertFalse([one for one in functions(node) if one is not node], (name, node.name))
                 if isinstance(node, ast.ClassDef):
                     self.assertFalse(node.decorator_list or node.keywords or len(node.bases) > 1, (name, node.name))
                     for one in node.body[1:]:
                         self.assertIsInstance(one, ast.FunctionDef)
                         self.assertFalse(one.name.startswith("__") and one.name != "__init__")
+
+    def test_strings_with_names_in_them(self):
+        for name, tree in TREES.items():
+            for node in ast.walk(tree):
+                if isinstance(node, ast.FormattedValue):
+                    self.assertIsInstance(node.value, ast.Name, (name, node.lineno))
+                    self.assertTrue(node.conversion == -1 and node.format_spec is None, (name, node.lineno))
 
     def test_is_and_errors(self):
         errors = defined(TREES["errors"])
