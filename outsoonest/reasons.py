@@ -110,7 +110,8 @@ def yielding(task, beat, lot, person):
     if person in lot:
         raise Refused(person)
     met = linking.met_from(linking.persons[person])
-    return tuple([other for other in lot if met[linking.last] or met[linking.persons[other]]])
+    # From where there is room beside the lot walks lead back to all of it.
+    return tuple([other for other in lot if met[linking.persons[other]]])
 
 
 def full_goes(task, residue):

@@ -155,6 +155,13 @@ class Books(Case):
                 self.assertEqual(book.state, state_of(HOUSE, 5, NEWS[:many + 1]))
                 self.assertTrue(same(told_of(open_book(book.both_pages())), told_of(book)))
 
+    def test_terms_of_more_octets(self):
+        for term in (0, 1, 254, 255, 256, 65534, 65535, 10 ** 9 - 2):
+            book = open_book((page_of([("page", term, 1), BEGIN]), page_of([("page", term + 1, 1), BEGIN, NEWS[0]])))
+            length = fold_length(book)
+            self.assertIs(book.fold_cut(length), True)
+            self.assertEqual((book.journal.term, book.journal.page, len(book.both_pages()[0])), (term + 2, 0, length))
+
     def test_folded_and_cut_at_every_octet(self):
         for folded in (False, True):
             length = fold_length(book_of(NEWS[:3]))

@@ -118,6 +118,16 @@ class Lines(Case):
         self.assertEqual(desk.world.book.state, state_of(HOUSE, 8, rows))
         self.assertEqual(desk.world.book.journal.told[1:], tuple(rows))
 
+    def test_folded_and_opened_anew(self):
+        desk = Desk(HOUSE, 8)
+        self.said(desk, (("found 0 9", "person 0"), ("fold", "ok")))
+        journal, book = desk.world.book.journal, desk.world.book
+        self.assertEqual((journal.page, journal.term, journal.told), (1, 1, (("fold", book.state),)))
+        self.said(desk, (("again", "ok"), ("found 0 1", "person 1"), ("fold", "ok")))
+        self.assertIsNot(desk.world.book, book)
+        self.assertEqual((desk.world.book.journal.page, desk.world.book.journal.term), (0, 2))
+        self.assertEqual((len(book.state[3]), len(desk.world.book.state[3])), (1, 2))
+
     def test_sixty_are_found(self):
         desk = Desk(HOUSE, 8)
         for at in range(60):

@@ -107,7 +107,7 @@ class Texts(Case):
                      "passage 00 1 1 1 -", "passage 0 01 1 1 -", "passage 0 1 01 1 -", "passage 0 1 1 01 -", "passage 0 1 1 1 01",
                      "passage 0 1 1 1 4,3", "passage 0 1 1 1 3,3", "passage 0 1 1 1 60", "passage 0 1 1 1 3,", "passage 0 1 1 1 ,3",
                      "passage 0 1 1 1 3,,4", "passage 0 1 1 1 3, 4", "passage 0 1 1 1 3;4", "passage 0 1 1 1 -,3", "passage 0 1 1 1 3,-",
-                     "passage 0 1 1 1 --", "passage x 1 1 1 -", "passage +0 1 1 1 -", "passage 0 1 1.0 1 -", "passage 0 1 1_0 1 -", "passage",
+                     "passage 0 1 1 1 --", "passage x 1 1 1 -", "passage 0 q 1 1 -", "passage +0 1 1 1 -", "passage 0 1 1.0 1 -", "passage 0 1 1_0 1 -", "passage",
                      "Passage 0 1 1 1 -", "passages 0 1 1 1 -", "passage\t0 1 1 1 -", "smoke", "smoke 0", "smoke 0 5 5", "smoke 2 5", "smoke 3 5",
                      "smoke 0 60", "smoke 00 5", "smoke 0 05", "smoke 0 -1", "smoke 0 -", "smoke 0 None", "smoke  0 5", "smoke 0 5 ", " smoke 0 5",
                      "smoke x 5", "", " ", "x", "passage " + "9" * 5000 + " 1 1 1 -", "smoke 0 " + "1" * 5000, "smoke 0 1000000000",

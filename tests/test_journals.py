@@ -273,6 +273,11 @@ class Cuts(Case):
         self.assertEqual(journal_cuts(journal), ((("x",),), ()))
         journal.keep()
         self.assertEqual(journal_cuts(journal), ((),))
+        # Alike, but not side by side.
+        journal.begin([("x",), ("y",)])
+        journal.begin([("x",)])
+        journal.lay(("y",))
+        self.assertEqual(journal_cuts(journal), ((("x",), ("y",)), (("x",),), (("x",), ("y",))))
 
     def test_opened_of_like_terms(self):
         first, second = page_of([("page", 2, 0), ("a",)]), page_of([("page", 2, 1), ("b",)])

@@ -323,6 +323,8 @@ class Ends(Case):
         for value in STRANGE + (1, 59, (0,), "0"):
             self.gives(False, paper_shows, task, 4, (value, ("nowhere",)))
         self.gives(True, paper_shows, task, 4, (0, ("nowhere",)))
+        for value in STRANGE + ("crowd", "Nowhere", ("nowhere",)):
+            self.gives(False, paper_shows, task, 4, (0, (value,)))
 
     def test_great(self):
         for crowded in (False, True):
