@@ -73,7 +73,7 @@ CALLS = {
     "crowd_paper": ((HOUSE, 0, 4, (9, 2, 0, 2)), (0, 1, 2, 3)),
     "crowd_bars": ((HOUSE, 0, 4, (9, 2, 0, 2), crowd_paper(HOUSE, 0, 4, (9, 2, 0, 2))), (0, 1, 2, 3, 4)), "fullest": ((HOUSE, 0, 4, (3, 0)), (0, 1, 2, 3)),
     "both": ((TASK,), (0,)), "both_flow": ((TASK,), (0,)), "both_holds": ((TASK, (0, 1), FLOW), (0, 1, 2)), "people_of": ((TASK, FLOW), (0, 1)),
-    "swapped": ((TASK, FLOW, plan(TASK)[0]), (0, 1)), "joined": ((TASK,), (0,)),
+    "swapped": ((TASK, FLOW, plan(TASK)[0]), (0, 1, 2)), "joined": ((TASK,), (0,)),
     "exchanged": ((TASK, ((), (), (), ()), 0, 1, 1), (0, 1, 2, 3, 4)), "queued": ((TASK, RUN), (0, 1)), "is_queued": ((TASK, RUN), (0, 1)),
     "longest_stands": ((TASK, RUN), (0, 1)), "ways": ((TASK, FLOW), (0, 1)), "ways_hold": ((TASK, FLOW, RUN), (0, 1, 2)), "plan": ((TASK,), (0,)),
     "plan_holds": ((TASK, plan(TASK)), (0, 1)),
